@@ -1,0 +1,1 @@
+"""Roofpost: wishes told from house to house, and letters led by them."""

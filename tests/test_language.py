@@ -1,0 +1,317 @@
+"""Holds each file of the package against LANGUAGE.md, as far as a look at the file can tell."""
+
+import ast
+import pathlib
+import re
+import unittest
+
+import roofpost
+
+FOLDER = pathlib.Path(roofpost.__file__).parent
+
+OWN = """len range enumerate zip min max sum abs sorted reversed int str bool list tuple dict set frozenset
+isinstance ord repr any all divmod Exception ValueError TypeError KeyError IndexError LookupError
+ZeroDivisionError ArithmeticError OverflowError RuntimeError NotImplementedError AttributeError
+StopIteration""".split()
+
+METHODS = """append clear copy count endswith extend find get index insert isalnum isalpha isdigit islower
+isspace isupper items join keys ljust lower lstrip partition pop remove replace reverse rfind rjust
+rpartition rsplit rstrip setdefault split splitlines startswith strip update upper values zfill
+bit_length""".split()
+
+DUNDERS = ["__init__", "__eq__", "__repr__", "__str__", "__len__"]
+
+# L17: words that stand nowhere, and those that stand in no longer word either.
+WORDS = """type typing typing_extensions enum Enum IntEnum StrEnum Flag IntFlag Generic Protocol ABC ABCMeta
+namedtuple NamedTuple TypedDict TYPE_CHECKING abstractmethod""".split()
+SPLINTERS = ["dataclass", "overload", "contextmanager"]
+
+UNUSED = """register mro elements open input version_info with_traceback add_note attrgetter breakpoint builtins
+compile copyright credits delattr dir eval exec exit gc getattr globals hasattr help id importlib license
+locals methodcaller os quit setattr super type vars sys format format_map""".split()
+
+STATEMENTS = (ast.Assign, ast.AugAssign, ast.If, ast.While, ast.For, ast.Return, ast.Break, ast.Continue,
+              ast.Pass, ast.Raise, ast.Try, ast.Expr, ast.FunctionDef)
+
+EXPRESSIONS = (ast.Constant, ast.List, ast.Tuple, ast.Dict, ast.Set, ast.BinOp, ast.UnaryOp, ast.BoolOp,
+               ast.Compare, ast.IfExp, ast.Call, ast.Attribute, ast.Subscript, ast.Slice, ast.ListComp,
+               ast.JoinedStr, ast.FormattedValue, ast.Name, ast.Lambda)
+
+LAZY = ["zip", "enumerate", "reversed", "range"]
+
+
+def told(text, methods=()):
+    """What stands outside the rules in a file of this text, in a package with these methods: (rule, row) each."""
+    tree = ast.parse(text)
+    found = of_text(text) + of_top(tree)
+    for node in ast.walk(tree):
+        found += of_node(node)
+    found += of_names(tree, list(methods)) + of_lazy(tree)
+    return sorted(set(found))
+
+
+def of_text(text):
+    rows = text.split("\n")
+    found = [("L10", 401)] if len(rows) > 401 else []
+    for number, row in enumerate(rows, start=1):
+        if len(row) > 120 or "\t" in row:
+            found.append(("L10", number))
+        if any(not " " <= sign <= "~" for sign in row):
+            found.append(("L14", number))
+        words = re.findall(r"[A-Za-z0-9_]+", row)
+        if any(word in WORDS or any(splinter in word for splinter in SPLINTERS) for word in words):
+            found.append(("L17", number))
+    return found
+
+
+def is_text(node):
+    return isinstance(node, ast.Expr) and isinstance(node.value, ast.Constant) and isinstance(node.value.value, str)
+
+
+def is_plain(node):
+    if isinstance(node, (ast.List, ast.Tuple)):
+        return all(is_plain(part) for part in node.elts)
+    if isinstance(node, ast.Dict):
+        return all(is_plain(part) for part in node.keys + node.values)
+    if isinstance(node, ast.UnaryOp):
+        return isinstance(node.op, ast.USub) and is_plain(node.operand)
+    return isinstance(node, (ast.Constant, ast.Name))
+
+
+def of_top(tree):
+    found = []
+    for place, node in enumerate(tree.body):
+        if isinstance(node, ast.ImportFrom):
+            if node.level != 0 or not (node.module or "").startswith("roofpost."):
+                found.append(("L2", node.lineno))
+            if any(one.name == "*" for one in node.names):
+                found.append(("L2", node.lineno))
+        elif isinstance(node, ast.Assign):
+            if not is_plain(node.value):
+                found.append(("L3", node.lineno))
+        elif isinstance(node, ast.ClassDef):
+            found += of_class(node)
+        elif not isinstance(node, ast.FunctionDef) and not (place == 0 and is_text(node)):
+            found.append(("L3", node.lineno))
+    bound = bound_at_top(tree)
+    found += [("L15", 1) for name in set(bound) if bound.count(name) > 1]
+    return found
+
+
+def methods_of(tree):
+    return [part.name for node in tree.body if isinstance(node, ast.ClassDef) for part in node.body
+            if isinstance(part, ast.FunctionDef)]
+
+
+def bound_at_top(tree):
+    bound = []
+    for node in tree.body:
+        if isinstance(node, ast.ImportFrom):
+            bound += [one.asname or one.name for one in node.names]
+        elif isinstance(node, ast.Assign):
+            bound += [one.id for one in node.targets if isinstance(one, ast.Name)]
+        elif isinstance(node, (ast.FunctionDef, ast.ClassDef)):
+            bound.append(node.name)
+    return bound
+
+
+def of_class(node):
+    found = []
+    if len(node.bases) > 1 or node.keywords or node.decorator_list:
+        found.append(("L5", node.lineno))
+    for part in node.body:
+        if not isinstance(part, (ast.FunctionDef, ast.Pass)) and not is_text(part):
+            found.append(("L5", part.lineno))
+    return found
+
+
+def of_node(node):
+    row = getattr(node, "lineno", 0)
+    found = []
+    if isinstance(node, ast.stmt) and not isinstance(node, STATEMENTS + (ast.ImportFrom, ast.ClassDef)):
+        found.append(("L6", row))
+    if isinstance(node, ast.expr) and not isinstance(node, EXPRESSIONS):
+        found.append(("L7", row))
+    if isinstance(node, (ast.FunctionDef, ast.Lambda)):
+        found += of_function(node)
+    if isinstance(node, ast.Assign) and len(node.targets) > 1:
+        found.append(("L6", row))
+    if isinstance(node, (ast.For, ast.While)) and node.orelse:
+        found.append(("L6", row))
+    if isinstance(node, ast.Try) and (node.finalbody or any(one.type is None for one in node.handlers)):
+        found.append(("L6", row))
+    if isinstance(node, ast.Expr) and not isinstance(node.value, ast.Call) and not is_text(node):
+        found.append(("L6", row))
+    return found + of_expression(node, row)
+
+
+def of_function(node):
+    arguments = node.args
+    found = []
+    if arguments.vararg or arguments.kwarg or arguments.kwonlyargs or arguments.posonlyargs:
+        found.append(("L4", node.lineno))
+    if any(not is_plain(one) for one in arguments.defaults):
+        found.append(("L4", node.lineno))
+    if isinstance(node, ast.FunctionDef):
+        if node.decorator_list:
+            found.append(("L4", node.lineno))
+        if node.end_lineno - node.lineno + 1 > 40:
+            found.append(("L10", node.lineno))
+    return found
+
+
+def of_expression(node, row):
+    found = []
+    if isinstance(node, ast.Constant):
+        if isinstance(node.value, (float, complex, bytes)):
+            found.append(("L7", row))
+        if isinstance(node.value, str) and "%" in node.value:
+            found.append(("L27", row))
+    if isinstance(node, ast.BinOp):
+        if isinstance(node.op, (ast.Div, ast.MatMult)):
+            found.append(("L7", row))
+        if isinstance(node.op, ast.Pow) and not isinstance(node.right, ast.Constant):
+            found.append(("L27", row))
+    if isinstance(node, ast.ListComp):
+        if len(node.generators) > 1 or len(node.generators[0].ifs) > 1:
+            found.append(("L7", row))
+    if isinstance(node, ast.FormattedValue) and (not isinstance(node.value, ast.Name) or node.format_spec):
+        found.append(("L7", row))
+    if isinstance(node, ast.Compare):
+        for sign, right in zip(node.ops, node.comparators):
+            plain = isinstance(right, ast.Constant) and (right.value is None or isinstance(right.value, bool))
+            if isinstance(sign, (ast.Is, ast.IsNot)) and not plain:
+                found.append(("L20", row))
+    if isinstance(node, (ast.Set, ast.AnnAssign)):
+        found.append(("L24", row))
+    return found
+
+
+def of_names(tree, methods):
+    top = bound_at_top(tree)
+    local = [node.id for node in ast.walk(tree) if isinstance(node, ast.Name) and isinstance(node.ctx, ast.Store)]
+    local += [node.arg for node in ast.walk(tree) if isinstance(node, ast.arg)]
+    local += [node.name for node in ast.walk(tree) if isinstance(node, ast.FunctionDef)]
+    local += [node.name for node in ast.walk(tree) if isinstance(node, ast.ExceptHandler) and node.name]
+    found = []
+    for node in ast.walk(tree):
+        row = getattr(node, "lineno", 0)
+        if isinstance(node, ast.Name):
+            if node.id not in top + local + OWN:
+                found.append(("L8", row))
+            if node.id in OWN and isinstance(node.ctx, ast.Store):
+                found.append(("L8", row))
+            found += of_word(node.id, row)
+        if isinstance(node, ast.arg):
+            if node.arg in OWN + top:
+                found.append(("L15", row))
+            found += of_word(node.arg, row)
+        if isinstance(node, (ast.FunctionDef, ast.ClassDef)):
+            found += of_word(node.name, row)
+        if isinstance(node, ast.Attribute):
+            found += of_word(node.attr, row)
+        if isinstance(node, ast.Call) and isinstance(node.func, ast.Attribute):
+            if node.func.attr not in METHODS + methods + DUNDERS:
+                found.append(("L25", row))
+    inner = [node for node in ast.walk(tree) if isinstance(node, ast.Name) and isinstance(node.ctx, ast.Store)]
+    at_top = [one for node in tree.body if isinstance(node, ast.Assign) for one in node.targets]
+    found += [("L15", node.lineno) for node in inner if node.id in top and node not in at_top]
+    return found
+
+
+def of_word(word, row):
+    if word in UNUSED:
+        return [("L17", row)]
+    if word.startswith("_") and word not in DUNDERS:
+        return [("L12", row)]
+    return [] if re.fullmatch(r"[A-Za-z0-9_]+", word) else [("L12", row)]
+
+
+def of_lazy(tree):
+    """L23 and L24: what is walked at once, and sets, don't stand where a value is kept."""
+    fit = []
+    for node in ast.walk(tree):
+        if isinstance(node, (ast.For, ast.comprehension)):
+            fit.append((node.iter, "walk"))
+        if isinstance(node, ast.Call) and isinstance(node.func, ast.Name) and node.args:
+            name = node.func.id
+            if name in ("list", "tuple", "dict", "sorted", "sum", "any", "all", "min", "max") + tuple(LAZY):
+                fit += [(one, "walk") for one in node.args]
+            if name in ("sorted", "len"):
+                fit.append((node.args[0], "set"))
+        if isinstance(node, ast.Compare):
+            fit += [(one, "set") for one in [node.left] + node.comparators]
+    found = []
+    for node in ast.walk(tree):
+        if isinstance(node, ast.Call) and isinstance(node.func, ast.Name):
+            if node.func.id in LAZY and not any(node is one and kind == "walk" for one, kind in fit):
+                found.append(("L23", node.lineno))
+            if node.func.id in ("set", "frozenset") and not any(node is one and kind == "set" for one, kind in fit):
+                found.append(("L24", node.lineno))
+    return found
+
+
+# A snippet for each rule, which has to be found; so a look that finds nothing says something.
+OUTSIDE = [
+    ("L2", "from os import path"), ("L2", "from roofpost.errors import *"), ("L2", "from .errors import NoKin"),
+    ("L3", "names = sorted([1])"), ("L3", "print(1)"), ("L4", "def f(*args):\n    return 1"),
+    ("L4", "def f(a, *, b):\n    return 1"), ("L5", "class A:\n    many = 1"), ("L6", "def f():\n    assert True"),
+    ("L6", "def f():\n    a = b = 1\n    return a"), ("L6", "def f():\n    for k in [1]:\n        pass\n    else:\n        pass"),
+    ("L7", "def f(a):\n    return a / 2"), ("L7", "def f():\n    return 1.5"), ("L7", "def f(a):\n    return {k for k in a}"),
+    ("L7", "def f(a):\n    return any(k for k in a)"), ("L7", "def f(a):\n    return [j for k in a for j in k]"),
+    ("L8", "def f(a):\n    return map(f, a)"), ("L8", "def f(a):\n    len = a\n    return len"),
+    ("L10", "def f():\n" + "    pass\n" * 41), ("L10", "a = 1" + " " * 120), ("L12", "def f(_):\n    return 1"),
+    ("L14", "# \u00e9"), ("L15", "a = 1\na = 2"), ("L15", "a = 1\n\n\ndef f(a):\n    return a"),
+    ("L17", "# a type"), ("L17", "def f(a):\n    return id(a)"), ("L20", "def f(a):\n    return a is 1"),
+    ("L23", "def f(a):\n    b = zip(a, a)\n    return b"), ("L24", "def f(a):\n    b = set(a)\n    return b"),
+    ("L25", "def f(a):\n    a.sort()\n    return a"), ("L27", "a = '%'"), ("L27", "def f(n):\n    return 2 ** n"),
+]
+
+
+class Language(unittest.TestCase):
+    def files(self):
+        return sorted(path for path in FOLDER.iterdir() if path.name != "__pycache__")
+
+    def test_each_file_keeps_to_the_rules(self):
+        texts = {path.name: path.read_bytes().decode("utf-8") for path in self.files()}
+        methods = [name for text in texts.values() for name in methods_of(ast.parse(text))]
+        for name, text in texts.items():
+            self.assertEqual(told(text, methods), [], name)
+
+    def test_nothing_but_plain_files_lies_in_the_package(self):
+        self.assertIn("__init__.py", [path.name for path in self.files()])
+        for path in self.files():
+            self.assertTrue(path.is_file(), path.name)
+            self.assertTrue(re.fullmatch(r"[a-z][a-z0-9_]*\.py|__init__\.py|__main__\.py", path.name), path.name)
+            self.assertFalse(path.name.startswith("test"), path.name)
+
+    def test_names_are_drawn_from_the_files_that_define_them(self):
+        trees = {"roofpost." + path.stem: ast.parse(path.read_text()) for path in self.files()}
+        for name, tree in trees.items():
+            for node in tree.body:
+                if isinstance(node, ast.ImportFrom):
+                    made = [one.name for one in trees[node.module].body
+                            if isinstance(one, (ast.FunctionDef, ast.ClassDef))]
+                    made += [one.id for given in trees[node.module].body if isinstance(given, ast.Assign)
+                             for one in given.targets]
+                    for one in node.names:
+                        self.assertIn(one.name, made, name)
+
+    def test_no_two_files_draw_from_one_another(self):
+        drawn = {}
+        for path in self.files():
+            tree = ast.parse(path.read_text())
+            drawn["roofpost." + path.stem] = [node.module for node in tree.body if isinstance(node, ast.ImportFrom)]
+        while drawn:
+            free = [name for name, above in drawn.items() if not any(one in drawn for one in above)]
+            self.assertNotEqual(free, [], drawn)
+            for name in free:
+                del drawn[name]
+
+    def test_what_stands_outside_is_found(self):
+        for rule, text in OUTSIDE:
+            self.assertIn(rule, [one for one, row in told(text)], text)
+
+
+if __name__ == "__main__":
+    unittest.main()
