@@ -1,12 +1,11 @@
 """Point 4: letters and wishes that are handed in together have equally many fields."""
 
 import copy
-import inspect
 import itertools
 import unittest
 
-from roofpost import together, wishes as wishes_file
 from roofpost.errors import NoKin
+from roofpost.fewest import fewest_of, is_fewest
 from roofpost.together import covered, is_cuts, spare_of
 from roofpost.wishes import covers, has_letter, in_common, roof_of
 
@@ -69,6 +68,33 @@ class Kin(unittest.TestCase):
         self.refused(covered, [wish_of(2), ((0, 0),)], ((5, 5), (5, 5)))
         self.refused(roof_of, [wish_of(1), ((0, 0),), ((0, 0), (0, 0))])
 
+    def test_fewest_of_a_list(self):
+        for fields, strange in itertools.permutations((1, 2, 3), 2):
+            for many in (2, 6):
+                for place in range(many):
+                    wishes = [((k, 9),) * fields for k in range(many)]
+                    told = fewest_of(wishes)
+                    wishes[place] = ((0, 9),) * strange
+                    self.refused(fewest_of, wishes)
+                    self.refused(is_fewest, wishes, told)
+
+    def test_fewest_with_a_strange_choice(self):
+        for fields, strange in itertools.permutations((1, 2, 3), 2):
+            wishes = [((0, 4),) * fields, ((5, 9),) * fields]
+            number, some, tree = fewest_of(wishes)
+            odd = ((0, 4),) * strange
+            self.assertIs(is_fewest(wishes, (number, some, tree)), True)
+            for other in ([odd], [odd, odd], some + [odd], [odd] + some, [some[0], odd]):
+                for many in (number, len(other), 10 ** 59, -1):
+                    self.refused(is_fewest, wishes, (many, other, tree))
+
+    def test_fewest_with_a_strange_letter(self):
+        wishes = [((0, 4),), ((5, 9),)]
+        for tree in (("left", (0, 0)), ("meet", (0, 0), [("left", (0,))]), ("meet", (5,), [("left", (0, 0))])):
+            # Also where the number settles it, so that the tree need never be gone through.
+            for number in (2, 3, -1):
+                self.refused(is_fewest, wishes, (number, wishes, tree))
+
     def test_equally_many_fields_are_not_refused(self):
         for fields in (1, 2, 3):
             self.assertIs(has_letter(wish_of(fields), letter_of(fields)), True)
@@ -76,19 +102,6 @@ class Kin(unittest.TestCase):
             self.assertEqual(roof_of([wish_of(fields)] * 3), [wish_of(fields)])
             self.assertEqual(covered([], wish_of(fields))[0], "out")
             self.assertIs(is_cuts([], wish_of(fields), ("by", 0)), False)
-
-
-class Interface(unittest.TestCase):
-    def test_names_and_arguments(self):
-        asked = [
-            (wishes_file, "is_letter", ["thing"]), (wishes_file, "is_wish", ["thing"]),
-            (wishes_file, "has_letter", ["wish", "letter"]), (wishes_file, "covers", ["one", "other"]),
-            (wishes_file, "in_common", ["one", "other"]), (wishes_file, "letters_of", ["wish"]),
-            (wishes_file, "roof_of", ["wishes"]), (together, "covered", ["wishes", "wish"]),
-            (together, "is_cuts", ["wishes", "wish", "tree"]), (together, "spare_of", ["wishes"]),
-        ]
-        for module, name, arguments in asked:
-            self.assertEqual(list(inspect.signature(getattr(module, name)).parameters), arguments, name)
 
 
 if __name__ == "__main__":

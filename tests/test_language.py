@@ -39,6 +39,17 @@ EXPRESSIONS = (ast.Constant, ast.List, ast.Tuple, ast.Dict, ast.Set, ast.BinOp, 
 
 LAZY = ["zip", "enumerate", "reversed", "range"]
 
+CHANGES = ["append", "clear", "extend", "insert", "pop", "remove", "reverse", "setdefault", "update"]
+
+# L22: the keywords of Python's own.
+KEYWORDS = {"sorted": ["key", "reverse"], "min": ["key", "default"], "max": ["key", "default"], "sum": ["start"],
+            "enumerate": ["start"], "zip": ["strict"]}
+
+# L26: what Python's own values have, but for the names that a method, or a value of an object, may have all the same.
+PYTHONS = {name for kind in (str, int, list, dict, set, bytes) for name in vars(kind) if not name.startswith("__")}
+AS_METHODS = METHODS + ["add", "discard"]
+AS_VALUES = "count index title find get join lower upper split strip copy add".split()
+
 
 def told(text, methods=()):
     """What stands outside the rules in a file of this text, in a package with these methods: (rule, row) each."""
@@ -46,7 +57,7 @@ def told(text, methods=()):
     found = of_text(text) + of_top(tree)
     for node in ast.walk(tree):
         found += of_node(node)
-    found += of_names(tree, list(methods)) + of_lazy(tree)
+    found += of_names(tree, list(methods)) + of_lazy(tree) + of_classes(tree) + of_walks(tree)
     return sorted(set(found))
 
 
@@ -251,6 +262,59 @@ def of_lazy(tree):
     return found
 
 
+def values_of(tree):
+    """The names under which values are given to objects, with their rows."""
+    return [(node.attr, node.lineno) for node in ast.walk(tree)
+            if isinstance(node, ast.Attribute) and isinstance(node.ctx, ast.Store)]
+
+
+def of_classes(tree):
+    """L18, L26 and L28, as far as one file tells."""
+    found = [("L26", row) for name, row in values_of(tree)
+             if name in PYTHONS | {"args", "encode", "format"} and name not in AS_VALUES]
+    for node in tree.body:
+        if isinstance(node, ast.ClassDef):
+            names = [part.name for part in node.body if isinstance(part, ast.FunctionDef)]
+            found += [("L18", node.lineno) for name in names if names.count(name) > 1]
+            found += [("L26", node.lineno) for name in names if name in PYTHONS and name not in AS_METHODS]
+            for part in node.body:
+                if isinstance(part, ast.FunctionDef) and part.name == "__init__":
+                    found += [("L28", one.lineno) for one in ast.walk(part)
+                              if isinstance(one, ast.Return) and one.value is not None]
+    return found
+
+
+def of_walks(tree):
+    """L19, L22 and L23: what is raised and taken, keywords, and loops that change what they walk."""
+    found = []
+    for node in ast.walk(tree):
+        if isinstance(node, ast.Raise) and not isinstance(node.exc, ast.Call):
+            found.append(("L19", node.lineno))
+        if isinstance(node, ast.ExceptHandler) and getattr(node.type, "id", "") in ("Exception", "TypeError", ""):
+            found.append(("L19", node.lineno))
+        if isinstance(node, ast.Call):
+            name = getattr(node.func, "id", getattr(node.func, "attr", ""))
+            if name in OWN + METHODS and any(one.arg not in KEYWORDS.get(name, []) for one in node.keywords):
+                found.append(("L22", node.lineno))
+        if isinstance(node, ast.For):
+            walked = node.iter
+            while isinstance(walked, ast.Call) and (isinstance(walked.func, ast.Attribute) or (
+                    walked.func.id in ("enumerate", "zip", "reversed") and walked.args)):
+                walked = walked.func.value if isinstance(walked.func, ast.Attribute) else walked.args[0]
+            found += [("L23", one.lineno) for part in node.body for one in ast.walk(part)
+                      if changed(one) == ast.unparse(walked)]
+    return found
+
+
+def changed(node):
+    """What a call or a place that is set changes, as it is written, or None."""
+    if isinstance(node, ast.Call) and isinstance(node.func, ast.Attribute) and node.func.attr in CHANGES:
+        return ast.unparse(node.func.value)
+    if isinstance(node, ast.Subscript) and isinstance(node.ctx, ast.Store):
+        return ast.unparse(node.value)
+    return None
+
+
 # A snippet for each rule, which has to be found; so a look that finds nothing says something.
 OUTSIDE = [
     ("L2", "from os import path"), ("L2", "from roofpost.errors import *"), ("L2", "from .errors import NoKin"),
@@ -265,6 +329,13 @@ OUTSIDE = [
     ("L17", "# a type"), ("L17", "def f(a):\n    return id(a)"), ("L20", "def f(a):\n    return a is 1"),
     ("L23", "def f(a):\n    b = zip(a, a)\n    return b"), ("L24", "def f(a):\n    b = set(a)\n    return b"),
     ("L25", "def f(a):\n    a.sort()\n    return a"), ("L27", "a = '%'"), ("L27", "def f(n):\n    return 2 ** n"),
+    ("L18", "class A:\n    def f(self):\n        return 1\n\n    def f(self):\n        return 2"),
+    ("L19", "def f(a):\n    raise a"), ("L19", "def f(a):\n    try:\n        return a[0]\n    except TypeError:\n        return 1"),
+    ("L22", "def f(a):\n    return list(a, key=len)"), ("L22", "def f(a):\n    return a.split(sep='')"),
+    ("L23", "def f(a):\n    for k in a:\n        a.append(k)"), ("L23", "def f(a):\n    for k in a.b.items():\n        a.b[k] = 1"),
+    ("L23", "def f(a):\n    for k, j in enumerate(a):\n        a[k] = j"),
+    ("L26", "class A:\n    def f(self):\n        self.values = 1"), ("L26", "class A:\n    def sort(self):\n        return 1"),
+    ("L28", "class A:\n    def __init__(self):\n        return None"),
 ]
 
 
@@ -277,6 +348,11 @@ class Language(unittest.TestCase):
         methods = [name for text in texts.values() for name in methods_of(ast.parse(text))]
         for name, text in texts.items():
             self.assertEqual(told(text, methods), [], name)
+
+    def test_no_name_is_a_method_here_and_a_value_there(self):
+        trees = [ast.parse(path.read_text()) for path in self.files()]
+        methods = {name for tree in trees for name in methods_of(tree)}
+        self.assertEqual(methods & {name for tree in trees for name, row in values_of(tree)}, set())
 
     def test_nothing_but_plain_files_lies_in_the_package(self):
         self.assertIn("__init__.py", [path.name for path in self.files()])
