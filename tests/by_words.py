@@ -6,6 +6,7 @@ Nothing here is taken from the program, so that a fault in it can't hide itself.
 import functools
 import itertools
 import random
+import re
 
 
 @functools.lru_cache(maxsize=None)
@@ -359,6 +360,257 @@ class Town:
     def log(self, house):
         self.need_houses(house)
         return list(self.logs[house])
+
+
+# Points 19 and 20: what a log says of its house is read off its rows anew each time, nothing is kept.
+DEED_ROWS = ("wish", "back", "join", "cut", "send", "come")
+
+
+def since_join(rows, house):
+    """The rows since the house was joined last, or None where it is no neighbour."""
+    turns = [place for place, row in enumerate(rows) if row in (("join", house), ("cut", house))]
+    return rows[turns[-1]:] if turns and rows[turns[-1]][0] == "join" else None
+
+
+def neighbours_in(rows):
+    return [house for house in sorted({row[1] for row in rows if row[0] == "join"})
+            if since_join(rows, house) is not None]
+
+
+def wishes_over(rows, word, house):
+    """What has come from ("come"), or was told to ("tell"), a neighbour, and wasn't taken back."""
+    stand = []
+    for row in since_join(rows, house):
+        if row[:2] == (word, house) and row[2][0] == "more":
+            stand.append(row[2][1])
+        elif row[:2] == (word, house) and row[2][0] == "less":
+            stand.remove(row[2][1])
+    return stand
+
+
+def own_in(rows):
+    backs = [row[1] for row in rows if row[0] == "back"]
+    return {row[1]: row[2] for row in rows if row[0] == "wish" and row[1] not in backs}
+
+
+def letters_in(rows):
+    """Each (number, letter) that was sent from the house, or came there."""
+    return [row[1:] for row in rows if row[0] == "send"] + [
+        row[2][1:] for row in rows if row[0] == "come" and row[2][0] == "letter"]
+
+
+def asked_by(how, rows):
+    """All that is to be done by the deed that stands last."""
+    deed = rows[-1]
+    near = neighbours_in(rows)
+    heard = {house: wishes_over(rows, "come", house) for house in near}
+    if letters_in([deed]):
+        (number, letter), came = letters_in([deed])[0], deed[1] if deed[0] == "come" else None
+        if number in [one for one, other in letters_in(rows[:-1])]:
+            return []
+        lucky = sorted(hold for hold, wish in own_in(rows).items() if has(wish, letter))
+        return [("give", number, tuple(lucky))] + [
+            ("tell", house, ("letter", number, letter)) for house in near
+            if house != came and any(has(wish, letter) for wish in heard[house])]
+    asked = []
+    for house in near:
+        due = set(short(how, list(own_in(rows).values())
+                        + [wish for other in near if other != house for wish in heard[other]]))
+        told = set(wishes_over(rows, "tell", house))
+        asked += [("tell", house, ("more", wish)) for wish in sorted(due - told)]
+        asked += [("tell", house, ("less", wish)) for wish in sorted(told - due)]
+    return asked
+
+
+def to_do(how, rows):
+    """All that is still to be done behind rows that are so."""
+    deeds = [place for place, row in enumerate(rows) if row[0] in DEED_ROWS]
+    return asked_by(how, rows[:deeds[-1] + 1])[len(rows) - deeds[-1] - 1:] if deeds else []
+
+
+def fault(how, rows, row):
+    """Why a row behind rows that are so isn't so itself, or None."""
+    asked = to_do(how, rows)
+    if row[0] not in DEED_ROWS:
+        return None if asked[:1] == [row] else "not what is to be done"
+    if asked:
+        return "a deed too early"
+    word, number = row[:2]
+    if word == "wish":
+        return "wished ahead" if number in [one[1] for one in rows if one[0] == "wish"] else None
+    if word == "back":
+        return None if number in own_in(rows) else "no hold"
+    if word == "send":
+        return "sent ahead" if number in [one for one, letter in letters_in(rows)] else None
+    is_near = since_join(rows, number) is not None
+    if word == "join":
+        return "joined ahead" if is_near else None
+    if not is_near:
+        return word + " of no neighbour"
+    return fault_of_thing(rows, number, row[2]) if word == "come" else None
+
+
+def fault_of_thing(rows, house, thing):
+    if thing[0] == "letter":
+        stood = [letter for number, letter in letters_in(rows) if number == thing[1]]
+        return "another letter" if any(letter != thing[2] for letter in stood) else None
+    is_heard = thing[1] in wishes_over(rows, "come", house)
+    if thing[0] == "more":
+        return "heard ahead" if is_heard else None
+    return None if is_heard else "not heard"
+
+
+def judge(how, log):
+    """(number, why) of the first row that isn't so, or (None, None)."""
+    for number, row in enumerate(log):
+        why = fault(how, log[:number], row)
+        if why is not None:
+            return (number, why)
+    return (None, None)
+
+
+# Point 21.
+def runs(numbers):
+    """The greatest rows of neighbouring numbers, (low, high) each."""
+    rows = []
+    for number in sorted(numbers):
+        if rows and rows[-1][1] == number - 1:
+            rows[-1] = (rows[-1][0], number)
+        else:
+            rows.append((number, number))
+    return rows
+
+
+def numbers_in(stretches, counts):
+    return {number for number in range(len(counts)) if any(number in range(low, high + 1) for low, high in stretches)}
+
+
+def gap_weights(stretches, counts):
+    had = numbers_in(stretches, counts)
+    free = runs(set(range(min(had), max(had))) - had)
+    return [sum(counts[number] for number in range(low, high + 1)) for low, high in free]
+
+
+def least_needless(stretches, many, counts):
+    """All choices of gaps that are left out."""
+    weights = gap_weights(stretches, counts)
+    return min(sum(weights) - sum(some) for size in range(min(many - 1, len(weights)) + 1)
+               for some in itertools.combinations(weights, size))
+
+
+def is_right_mark(stretches, many, counts, needless, mark):
+    weights = gap_weights(stretches, counts)
+    return mark >= 0 and needless == sum(min(weight, mark) for weight in weights) - (many - 1) * mark
+
+
+def is_right_few(stretches, many, counts, thing):
+    needless, some, mark = thing
+    if len(some) > many or any(high >= low for (left_one, high), (low, right_one) in zip(some, some[1:])):
+        return False
+    if not all(low <= high and low >= 0 and high <= len(counts) - 1 for low, high in some):
+        return False
+    asked, had = numbers_in(stretches, counts), numbers_in(some, counts)
+    return (asked <= had and needless == sum(counts[number] for number in had - asked)
+            and is_right_mark(stretches, many, counts, needless, mark))
+
+
+# Points 22 and 23.
+NUMBER = "0|[1-9][0-9]{0,3}"
+LETTER = "[0-9](?:,[0-9]){0,2}"
+WISH = "[0-9]-[0-9](?:,[0-9]-[0-9]){0,2}"
+WEB = "[1-8](?: [0-7]-[0-7])*"
+
+
+def pairs_in(text):
+    return tuple((int(low), int(high)) for low, high in re.findall("([0-9])-([0-9])", text))
+
+
+def letter_of(text):
+    """The letter that is written, or None; likewise the next two."""
+    return tuple(int(sign) for sign in text[::2]) if re.fullmatch(LETTER, text) else None
+
+
+def wish_of(text):
+    is_one = re.fullmatch(WISH, text) and all(low <= high for low, high in pairs_in(text))
+    return pairs_in(text) if is_one else None
+
+
+def web_of(text):
+    web = (int(text[0]), pairs_in(text)) if re.fullmatch(WEB, text) else None
+    return web if is_web(web) else None
+
+
+def written(thing):
+    """A letter, a wish or a web as a text."""
+    if is_web(thing):
+        return str(thing[0]) + "".join(" %d-%d" % road for road in thing[1])
+    return ",".join("%d" % one if is_whole(one) else "%d-%d" % one for one in thing)
+
+
+ROWS = {
+    "town": "town ([1-8]) ([1-3]) (roof|spare)", "join": "join (N) (N)", "cut": "cut (N) (N)", "fall": "fall (N)",
+    "back": "back (N)", "wish": f"wish (N) ({WISH})", "send": f"send (N) ({LETTER})", "step": "step (N) (N)",
+    "still": "still", "heard": "heard (N) (N)", "given": "given (N)", "roads": "roads", "told": "told",
+}
+
+
+def row_of(text):
+    """(word, things) that a row says, or None where it is none by its words."""
+    for word, form in ROWS.items():
+        found = re.fullmatch(form.replace("N", NUMBER), text)
+        if found:
+            things = [thing_of(word, place, part) for place, part in enumerate(found.groups())]
+            return None if None in things else (word, tuple(things))
+    return None
+
+
+def thing_of(word, place, part):
+    if (word, place) == ("wish", 1):
+        return wish_of(part)
+    if (word, place) == ("send", 1):
+        return letter_of(part)
+    return part if (word, place) == ("town", 2) else int(part)
+
+
+class Desk:
+    """Point 23, over the town that is kept by the document's words."""
+
+    def __init__(self):
+        self.town = None
+
+    def say(self, text):
+        said = row_of(text)
+        if said is None or (self.town is None and said[0] != "town"):
+            raise Refused("NoRow")
+        word, things = said
+        if word == "town":
+            self.town = Town(*things)
+            return "ok"
+        if word == "still":
+            return str(self.still())
+        told = getattr(self.town, "counts" if word == "told" else word)(*things)
+        return self.answer(word, told)
+
+    def still(self):
+        many = 0
+        while self.town.waiting():
+            self.town.step(*self.town.waiting()[0])
+            many += 1
+        return many
+
+    def answer(self, word, told):
+        if word in ("join", "cut", "fall", "back"):
+            return "ok"
+        if word in ("wish", "send"):
+            return "%d" % told
+        if word == "step":
+            return told[0] + " " + (written(told[1]) if told[0] != "letter" else "%d" % told[1])
+        if word == "roads":
+            return written(told)
+        if word == "told":
+            return "%d %d" % told
+        texts = [written(one) if word == "heard" else "%d" % one for one in told]
+        return (" " if word == "heard" else ",").join(texts) if texts else "none"
 
 
 def dice(seed):

@@ -13,6 +13,10 @@ ASKED = {
     "tables": "short_of(how,wishes) table_of(web,holds,how,house,neighbour) led_by(web,holds,how,house,letter)"
               " chain_to(web,holds,how,house,letter,number)",
     "town": "Town(many,fields,how)",
+    "logs": "judged(how,log) what_next(how,log)",
+    "stretches": "few_of(stretches,many,counts) is_few(stretches,many,counts,thing)",
+    "texts": "show_letter(letter) show_wish(wish) show_web(web) read_letter(text) read_wish(text) read_web(text)",
+    "desk": "Desk()",
 }
 METHODS = ("join(one,other) cut(one,other) fall(house) back(number) wish(house,wish) send(house,letter) step(one,other)"
            " roads() holds() heard(house,neighbour) under_way(one,other) waiting() given(number) counts() log(house)")
@@ -37,6 +41,10 @@ class Interface(unittest.TestCase):
         for function, arguments in asked_of(METHODS):
             told = list(inspect.signature(getattr(town, function)).parameters)
             self.assertEqual(told, arguments, function)
+
+    def test_functions_of_a_desk(self):
+        desk = importlib.import_module("roofpost.desk").Desk()
+        self.assertEqual(list(inspect.signature(desk.say).parameters), ["row"])
 
 
 if __name__ == "__main__":

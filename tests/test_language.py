@@ -1,8 +1,10 @@
 """Holds each file of the package against LANGUAGE.md, as far as a look at the file can tell."""
 
 import ast
+import io
 import pathlib
 import re
+import tokenize
 import unittest
 
 import roofpost
@@ -58,6 +60,7 @@ def told(text, methods=()):
     for node in ast.walk(tree):
         found += of_node(node)
     found += of_names(tree, list(methods)) + of_lazy(tree) + of_classes(tree) + of_walks(tree)
+    found += of_kept(tree) + of_uses(tree) + of_escapes(text)
     return sorted(set(found))
 
 
@@ -315,6 +318,78 @@ def changed(node):
     return None
 
 
+def places_of(tree):
+    """Each node with the one around it, and the field of that one in which it stands."""
+    return [(node, above, field) for above in ast.walk(tree) for field, part in ast.iter_fields(above)
+            for node in (part if isinstance(part, list) else [part]) if isinstance(node, ast.AST)]
+
+
+def of_kept(tree):
+    """L15: lists and dicts of a file's top, which hold none themselves and are only read."""
+    given = [node for node in tree.body if isinstance(node, ast.Assign)]
+    lists = [node for node in given if isinstance(node.value, (ast.List, ast.Dict))]
+    found = [("L15", node.lineno) for node in given for part in ast.walk(node.value)
+             if isinstance(part, (ast.List, ast.Dict)) and part is not node.value]
+    names = [one.id for node in lists for one in node.targets]
+    for node, above, field in places_of(tree):
+        if isinstance(node, ast.Name) and node.id in names and isinstance(node.ctx, ast.Load):
+            if not is_read(above, field):
+                found.append(("L15", node.lineno))
+    return found
+
+
+def is_read(above, field):
+    if isinstance(above, ast.Subscript):
+        return field == "value" and isinstance(above.ctx, ast.Load)
+    if isinstance(above, ast.Call):
+        return field == "args" and getattr(above.func, "id", "") in (
+            "len", "list", "tuple", "dict", "sorted", "sum", "min", "max", "any", "all", "enumerate", "zip", "reversed")
+    if isinstance(above, ast.Attribute):
+        return above.attr in ("get", "items", "keys", "values", "count", "index", "copy")
+    return isinstance(above, ast.Compare) or (isinstance(above, (ast.For, ast.comprehension)) and field == "iter")
+
+
+def of_uses(tree):
+    """L13, L18, L19, L21, L22 and L25: classes, Python's own and methods stand where they may, and nothing is annotated.
+
+    Narrower than the rules: of Python's own errors only those are taken that may be taken anywhere.
+    """
+    found = []
+    classes = [node.name for node in tree.body if isinstance(node, ast.ClassDef)]
+    functions = [name for name in OWN if name[0].islower()]
+    places = places_of(tree)
+    beside = {id(node): (above, field) for node, above, field in places}
+    for node, above, field in places:
+        row = getattr(node, "lineno", 0)
+        if isinstance(node, ast.Name) and node.id in classes + functions and isinstance(node.ctx, ast.Load):
+            if isinstance(above, ast.Tuple):
+                above, field = beside[id(above)]
+            fits = isinstance(above, ast.Call) and (field == "func" or getattr(above.func, "id", "") == "isinstance")
+            fits = fits or isinstance(above, ast.keyword) and above.arg == "key" and node.id in functions
+            fits = fits or isinstance(above, (ast.ClassDef, ast.ExceptHandler)) and node.id in classes
+            # A base's __init__ is called by the class's name.
+            fits = fits or isinstance(above, ast.Attribute) and above.attr == "__init__"
+            if not fits:
+                found.append(("L18" if node.id in classes else "L22", row))
+        if isinstance(node, ast.Attribute) and node.attr in METHODS and isinstance(node.ctx, ast.Load):
+            if not (isinstance(above, ast.Call) and field == "func"):
+                found.append(("L25", row))
+        if isinstance(node, ast.ExceptHandler):
+            taken = node.type.elts if isinstance(node.type, ast.Tuple) else [node.type]
+            barred = [name for name in OWN if name not in ("KeyError", "ZeroDivisionError", "StopIteration")]
+            found += [("L19", row) for one in taken if getattr(one, "id", "") in barred]
+        if isinstance(node, ast.arg) and node.annotation or isinstance(node, ast.FunctionDef) and node.returns:
+            found.append(("L21", row))
+    lambdas = [(node.lineno, ast.unparse(node.args)) for node in ast.walk(tree) if isinstance(node, ast.Lambda)]
+    return found + [("L13", one[0]) for one in lambdas if lambdas.count(one) > 1]
+
+
+def of_escapes(text):
+    """L27: the escapes that a text may have."""
+    return [("L27", token.start[0]) for token in tokenize.generate_tokens(io.StringIO(text).readline)
+            if token.type == tokenize.STRING and re.sub(r"\\[nt\\'\"]", "", token.string).count("\\")]
+
+
 # A snippet for each rule, which has to be found; so a look that finds nothing says something.
 OUTSIDE = [
     ("L2", "from os import path"), ("L2", "from roofpost.errors import *"), ("L2", "from .errors import NoKin"),
@@ -336,6 +411,22 @@ OUTSIDE = [
     ("L23", "def f(a):\n    for k, j in enumerate(a):\n        a[k] = j"),
     ("L26", "class A:\n    def f(self):\n        self.values = 1"), ("L26", "class A:\n    def sort(self):\n        return 1"),
     ("L28", "class A:\n    def __init__(self):\n        return None"),
+    ("L15", "a = [[1]]"), ("L15", "a = ({},)"), ("L15", "a = [1]\n\n\ndef f():\n    return a"),
+    ("L15", "a = [1]\n\n\ndef f():\n    a.append(1)"), ("L15", "a = {}\n\n\ndef f(b):\n    a[b] = 1"),
+    ("L15", "a = [1]\n\n\ndef f(b):\n    return f(a)"), ("L18", "class A:\n    pass\n\n\ndef f():\n    return [A]"),
+    ("L22", "def f(a):\n    b = len\n    return b(a)"), ("L25", "def f(a):\n    b = a.append\n    return b"),
+    ("L19", "def f(a):\n    try:\n        return f(a)\n    except ValueError:\n        return 1"),
+    ("L19", "def f(a):\n    try:\n        return a[0]\n    except (KeyError, IndexError):\n        return 1"),
+    ("L21", "def f(a: int):\n    return a"), ("L21", "def f(a) -> int:\n    return a"), ("L27", "a = '\\x41'"),
+    ("L13", "def f(a):\n    return [sorted(a, key=lambda k: k), sorted(a, key=lambda k: -k)]"),
+]
+
+# What the rules allow isn't found.
+WITHIN = [
+    "a = [1]\n\n\ndef f(b):\n    return a[0] + len(a) + sum([k for k in a if k in a and a.count(k) == b]), list(a)",
+    "a = {'b': (1, 2)}\n\n\ndef f(b):\n    return a.get(b)", "a = '\\n\\t\\\\\\''",
+    "class A(ValueError):\n    pass\n\n\ndef f(b):\n    try:\n        return sorted(b, key=len)\n    except A:\n        return 1",
+    "class A:\n    pass\n\n\ndef f(b):\n    return isinstance(b, A) or isinstance(b, (int, str))",
 ]
 
 
@@ -387,6 +478,10 @@ class Language(unittest.TestCase):
     def test_what_stands_outside_is_found(self):
         for rule, text in OUTSIDE:
             self.assertIn(rule, [one for one, row in told(text)], text)
+
+    def test_what_stands_within_is_not_found(self):
+        for text in WITHIN:
+            self.assertEqual(told(text), [], text)
 
 
 if __name__ == "__main__":
